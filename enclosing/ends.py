@@ -162,7 +162,7 @@ def common_part(a, b):
 
 
 def combined(op, a, b):
-    """What an op of two intervals, so none but the root, gives in units; None if it's empty."""
+    """What an op of two intervals (any but the root) gives in units, or None if it's empty."""
     if op == HULL:
         return hull_of(a, b)
     if a is None or b is None:
