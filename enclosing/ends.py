@@ -191,6 +191,16 @@ def told(interval):
     return [lower_bits(interval[0]), upper_bits(interval[1])]
 
 
+def told_alone(interval):
+    """1 if an interval is empty, else 0; then the two doubles that tell it."""
+    return [1 if interval is None else 0] + told(interval)
+
+
+def step(op, a, b):
+    """What an op of two intervals gives once its ends are doubles, for the next step to go on from."""
+    return interval_at(told(combined(op, a, b)), 0)
+
+
 def arith(op, n, a, b):
     """How many results are empty, then the n results, two doubles each; or a refusal."""
     if op < ADD or op > COMMON or n > MOST_INTERVALS:
@@ -203,3 +213,13 @@ def arith(op, n, a, b):
             empty = empty + 1
         ends.extend(told(result))
     return [empty] + ends
+
+
+def sum_of(n, a):
+    """Whether the sum of n intervals, rounded after each, is empty, then the sum; or a refusal."""
+    if n > MOST_INTERVALS:
+        return [REFUSED]
+    total = (0, 0)
+    for k in range(n):
+        total = step(ADD, total, interval_at(a, 2 * k))
+    return told_alone(total)

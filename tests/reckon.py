@@ -1,7 +1,7 @@
-"""An independent way of reckoning, for the tests: exact fractions, and Python's floats to round them.
+"""What the tests share: an independent way of reckoning, and the intervals that are tried.
 
-An interval is a pair of exact ends, each a Fraction or an infinite float; an empty one is None. Nothing here
-draws on the program.
+The reckoning is by exact fractions, with Python's floats to round them. An interval is a pair of exact ends,
+each a Fraction or an infinite float; an empty one is None. Nothing here draws on the program.
 """
 
 import math
@@ -9,7 +9,25 @@ import struct
 from fractions import Fraction
 
 INF = math.inf
+NAN = math.nan
+TINY = 5e-324
+LEAST_NORMAL = 2.2250738585072014e-308
+MOST_DENORMAL = LEAST_NORMAL - TINY
+LARGEST = 1.7976931348623157e308
+
 EMPTY_BITS = [0x7FF0000000000000, 0xFFF0000000000000]
+MINUS_ZERO = 0x8000000000000000
+NANS = [0x7FF0000000000001, 0x7FF8000000000000, 0x7FFFFFFFFFFFFFFF,
+        0xFFF0000000000001, 0xFFF8000000000000, 0xFFFFFFFFFFFFFFFF]
+
+EMPTY_PAIRS = [
+    (NAN, 1.0), (1.0, NAN), (NAN, NAN), (-INF, NAN), (NAN, INF),
+    (2.0, 1.0), (TINY, 0.0), (0.0, -TINY), (INF, -INF), (1.0, -1.0),
+    (INF, INF), (INF, 1.0), (INF, NAN),
+    (-INF, -INF), (1.0, -INF), (NAN, -INF),
+]
+
+EDGES = [0.0, -0.0, TINY, -TINY, MOST_DENORMAL, LEAST_NORMAL, 1.0, -1.0, LARGEST, -LARGEST, INF, -INF, NAN]
 
 
 def bits(number):
@@ -18,6 +36,14 @@ def bits(number):
 
 def number(its_bits):
     return struct.unpack("<d", struct.pack("<Q", its_bits))[0]
+
+
+def up(value):
+    return math.nextafter(value, INF)
+
+
+def down(value):
+    return math.nextafter(value, -INF)
 
 
 def flat(*pairs):
@@ -149,3 +175,74 @@ def arith(op, a, b):
         empty += found is None
         ends += outward(found)
     return [empty] + ends
+
+
+def step(op, a, b):
+    """A step on the way to a result, its ends rounded to doubles ahead of the next one."""
+    return read(*outward(result(op, a, b)))
+
+
+def alone(interval):
+    """How a call answers that tells one interval."""
+    return [int(interval is None)] + outward(interval)
+
+
+def intervals(ends):
+    return [read(ends[k], ends[k + 1]) for k in range(0, len(ends), 2)]
+
+
+def sum_of(a):
+    total = (Fraction(0), Fraction(0))
+    for interval in intervals(a):
+        total = step(0, total, interval)
+    return alone(total)
+
+
+def sum_rounded_once(a):
+    """What would be wrong to answer: the exact sum, rounded at the end alone."""
+    total = (Fraction(0), Fraction(0))
+    for interval in intervals(a):
+        total = result(0, total, interval)
+    return alone(total)
+
+
+def draw_end(source):
+    kind = source.randrange(6)
+    if kind == 0:
+        return bits(source.choice(EDGES))
+    if kind == 1:
+        return source.getrandbits(64)
+    if kind == 2:
+        return source.getrandbits(1) << 63 | source.getrandbits(source.randrange(1, 54))
+    if kind == 3:
+        return bits(float(source.randrange(-20, 21)))
+    if kind == 4:
+        return bits(source.uniform(-2.0, 2.0))
+    # Within 60 binary places of one another, so that sums are seldom exact and seldom wholly one-sided.
+    return bits(math.ldexp(source.uniform(-1.0, 1.0), source.randrange(-30, 31)))
+
+
+def draw_interval(source):
+    ends = [draw_end(source), draw_end(source)]
+    kind = source.randrange(8)
+    if kind == 0:
+        return ends
+    if kind == 1:
+        return [ends[0], ends[0]]
+    return sorted(ends, key=number)
+
+
+def draw_near(source, exponent):
+    """An interval, never empty, whose ends are about 2 to this exponent in size, and finite up to 1014."""
+    ends = [math.ldexp(source.uniform(-1.0, 1.0), exponent + source.randrange(-10, 11)) for _ in range(2)]
+    if source.randrange(3) == 0:
+        ends[1] = ends[0]
+    return flat(sorted(ends))
+
+
+def draw_list(source, length, exponent):
+    """The ends of so many intervals, near an exponent, or of any kind where that is None."""
+    ends = []
+    for _ in range(length):
+        ends += draw_interval(source) if exponent is None else draw_near(source, exponent)
+    return ends

@@ -9,32 +9,11 @@ from fractions import Fraction
 
 import reckon
 from enclosing.ends import arith
-from reckon import EMPTY_BITS, INF, bits, flat
-
-NAN = math.nan
-TINY = 5e-324
-LEAST_NORMAL = 2.2250738585072014e-308
-MOST_DENORMAL = LEAST_NORMAL - TINY
-LARGEST = 1.7976931348623157e308
-MINUS_ZERO = bits(-0.0)
+from reckon import EMPTY_BITS, EMPTY_PAIRS, INF, LARGEST, LEAST_NORMAL, MINUS_ZERO, MOST_DENORMAL, NAN, NANS, TINY
+from reckon import down, draw_interval, flat, up
 
 ADD, SUBTRACT, MULTIPLY, DIVIDE, ROOT, HULL, COMMON = range(7)
 OPS = range(7)
-
-EMPTY_PAIRS = [
-    (NAN, 1.0), (1.0, NAN), (NAN, NAN), (-INF, NAN), (NAN, INF),
-    (2.0, 1.0), (TINY, 0.0), (0.0, -TINY), (INF, -INF), (1.0, -1.0),
-    (INF, INF), (INF, 1.0), (INF, NAN),
-    (-INF, -INF), (1.0, -INF), (NAN, -INF),
-]
-
-
-def up(number):
-    return math.nextafter(number, INF)
-
-
-def down(number):
-    return math.nextafter(number, -INF)
 
 
 def one(op, a, b=(1.0, 1.0)):
@@ -285,9 +264,8 @@ class Empty(ArithCase):
             self.tells(ROOT, (4.0, 9.0), empty, (2.0, 3.0))
 
     def test_every_nan_counts(self):
-        for nan in (0x7FF0000000000001, 0x7FF8000000000000, 0x7FFFFFFFFFFFFFFF,
-                    0xFFF0000000000001, 0xFFF8000000000000, 0xFFFFFFFFFFFFFFFF):
-            for pair in ([nan, bits(1.0)], [bits(-1.0), nan], [nan, nan]):
+        for nan in NANS:
+            for pair in ([nan, reckon.bits(1.0)], [reckon.bits(-1.0), nan], [nan, nan]):
                 self.assertEqual(arith(ADD, 1, pair, flat((1.0, 2.0))), [1] + EMPTY_BITS)
                 self.assertEqual(arith(HULL, 1, pair, flat((1.0, 2.0))), [0] + flat((1.0, 2.0)))
 
@@ -426,40 +404,14 @@ class Grid(ArithCase):
 class Drawn(ArithCase):
     """Many drawn pairs of intervals, the same ones each time."""
 
-    EDGES = [0.0, -0.0, TINY, -TINY, MOST_DENORMAL, LEAST_NORMAL, 1.0, -1.0, LARGEST, -LARGEST, INF, -INF, NAN]
-
-    def draw_end(self, source):
-        kind = source.randrange(6)
-        if kind == 0:
-            return bits(source.choice(self.EDGES))
-        if kind == 1:
-            return source.getrandbits(64)
-        if kind == 2:
-            return source.getrandbits(1) << 63 | source.getrandbits(source.randrange(1, 54))
-        if kind == 3:
-            return bits(float(source.randrange(-20, 21)))
-        if kind == 4:
-            return bits(source.uniform(-2.0, 2.0))
-        # Within 60 binary places of one another, so that sums are seldom exact and seldom wholly one-sided.
-        return bits(math.ldexp(source.uniform(-1.0, 1.0), source.randrange(-30, 31)))
-
-    def draw_interval(self, source):
-        ends = [self.draw_end(source), self.draw_end(source)]
-        kind = source.randrange(8)
-        if kind == 0:
-            return ends
-        if kind == 1:
-            return [ends[0], ends[0]]
-        return sorted(ends, key=reckon.number)
-
     def test_drawn_pairs(self):
         for op in OPS:
             source = random.Random(1000 + op)
             a = []
             b = []
             for _ in range(16000):
-                a += self.draw_interval(source)
-                b += self.draw_interval(source)
+                a += draw_interval(source)
+                b += draw_interval(source)
             self.agrees(op, a, b)
 
     def test_numbers_within_give_results_within(self):
