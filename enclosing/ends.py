@@ -223,3 +223,14 @@ def sum_of(n, a):
     for k in range(n):
         total = step(ADD, total, interval_at(a, 2 * k))
     return told_alone(total)
+
+
+def dot(n, a, b):
+    """Whether the sum of n products, each product and each sum rounded, is empty, then the sum; or a refusal."""
+    if n > MOST_INTERVALS:
+        return [REFUSED]
+    total = (0, 0)
+    for k in range(n):
+        product = step(MULTIPLY, interval_at(a, 2 * k), interval_at(b, 2 * k))
+        total = step(ADD, total, product)
+    return told_alone(total)

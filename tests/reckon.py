@@ -92,6 +92,17 @@ def outward(interval):
     return [bits(rounded_down(interval[0])), bits(rounded_up(interval[1]))]
 
 
+def plus(x, y):
+    """A sum of ends that aren't opposite infinities; each may be a fraction past the largest double."""
+    if infinite(x) or infinite(y):
+        return x if infinite(x) else y
+    return x + y
+
+
+def total_of(a, b):
+    return (plus(a[0], b[0]), plus(a[1], b[1]))
+
+
 def times(x, y):
     """A product of ends: an end of 0 stands for the number 0, so infinity is only what the other tends to."""
     if x == 0 or y == 0:
@@ -160,9 +171,9 @@ def result(op, a, b):
     if a is None or b is None:
         return None
     if op == 0:
-        return (a[0] + b[0], a[1] + b[1])
+        return total_of(a, b)
     if op == 1:
-        return (a[0] - b[1], a[1] - b[0])
+        return total_of(a, (-b[1], -b[0]))
     return {2: product, 3: quotient, 6: common}[op](a, b)
 
 
@@ -203,6 +214,29 @@ def sum_rounded_once(a):
     total = (Fraction(0), Fraction(0))
     for interval in intervals(a):
         total = result(0, total, interval)
+    return alone(total)
+
+
+def dot(a, b):
+    total = (Fraction(0), Fraction(0))
+    for first, second in zip(intervals(a), intervals(b)):
+        total = step(0, total, step(2, first, second))
+    return alone(total)
+
+
+def dot_of_exact_products(a, b):
+    """What would be wrong to answer: the products taken exactly, the sums alone rounded."""
+    total = (Fraction(0), Fraction(0))
+    for first, second in zip(intervals(a), intervals(b)):
+        total = step(0, total, result(2, first, second))
+    return alone(total)
+
+
+def dot_of_exact_sums(a, b):
+    """What would be wrong to answer: the products rounded, and then only the whole sum."""
+    total = (Fraction(0), Fraction(0))
+    for first, second in zip(intervals(a), intervals(b)):
+        total = result(0, total, step(2, first, second))
     return alone(total)
 
 

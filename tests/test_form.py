@@ -42,7 +42,9 @@ watching[0] = True
 for op in range(-1, 8):
     enclosing.ends.arith(op, 1, [0, 4607182418800017408], [4607182418800017408, 4611686018427387904])
 for n in (0, 1, 65537):
-    enclosing.ends.sum_of(n, [0, 4607182418800017408] if n == 1 else [])
+    ends = [0, 4607182418800017408] if n == 1 else []
+    enclosing.ends.sum_of(n, ends)
+    enclosing.ends.dot(n, ends, ends)
 watching[0] = False
 print(events, sorted(set(sys.modules) - before))
 """
