@@ -8,6 +8,7 @@ rounding to doubles that follows still finds the very best ones.
 
 REFUSED = -2
 MOST_INTERVALS = 65536
+MOST_POWER = 1024
 
 ADD = 0
 SUBTRACT = 1
@@ -59,6 +60,11 @@ def interval_at(numbers, place):
     if low_units > high_units:
         return None
     return (low_units, high_units)
+
+
+def point_at(numbers, place):
+    """The interval from the number at this place of a list of bits to itself, or None if it's not finite."""
+    return interval_at([numbers[place], numbers[place]], 0)
 
 
 def excess_width(size):
@@ -234,3 +240,17 @@ def dot(n, a, b):
         product = step(MULTIPLY, interval_at(a, 2 * k), interval_at(b, 2 * k))
         total = step(ADD, total, product)
     return told_alone(total)
+
+
+def evaluate(n, c, x):
+    """Whether a polynomial of x, by Horner's rule with each step rounded, is empty, then its value; or a refusal."""
+    if n > MOST_POWER:
+        return [REFUSED]
+    variable = interval_at(x, 0)
+    # Of a coefficient alone no step looks at x, and yet nothing is the value of an empty one.
+    if variable is None:
+        return told_alone(None)
+    value = point_at(c, n)
+    for k in range(n - 1, -1, -1):
+        value = step(ADD, step(MULTIPLY, value, variable), point_at(c, k))
+    return told_alone(value)

@@ -240,6 +240,33 @@ def dot_of_exact_sums(a, b):
     return alone(total)
 
 
+def horner(c, x, multiply, add):
+    """c[n] x^n + ... + c[0] of lists of bits, by the steps that are handed in."""
+    variable = read(*x)
+    numbers = [number(its_bits) for its_bits in c]
+    if variable is None or not all(math.isfinite(value) for value in numbers):
+        return alone(None)
+    points = [(Fraction(value), Fraction(value)) for value in numbers]
+    value = points[-1]
+    for coefficient in reversed(points[:-1]):
+        value = add(0, multiply(2, value, variable), coefficient)
+    return alone(value)
+
+
+def evaluate(c, x):
+    return horner(c, x, step, step)
+
+
+def evaluate_with_exact_products(c, x):
+    """What would be wrong to answer: the products taken exactly, the sums alone rounded."""
+    return horner(c, x, result, step)
+
+
+def evaluate_with_exact_sums(c, x):
+    """What would be wrong to answer: the products alone rounded, and the last sum."""
+    return horner(c, x, step, result)
+
+
 def draw_end(source):
     kind = source.randrange(6)
     if kind == 0:
