@@ -254,3 +254,14 @@ def evaluate(n, c, x):
     for k in range(n - 1, -1, -1):
         value = step(ADD, step(MULTIPLY, value, variable), point_at(c, k))
     return told_alone(value)
+
+
+def check(n, a):
+    """How many of n intervals are empty; or a refusal."""
+    if n > MOST_INTERVALS:
+        return [REFUSED]
+    empty = 0
+    for k in range(n):
+        if interval_at(a, 2 * k) is None:
+            empty = empty + 1
+    return [empty]

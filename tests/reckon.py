@@ -202,42 +202,42 @@ def intervals(ends):
     return [read(ends[k], ends[k + 1]) for k in range(0, len(ends), 2)]
 
 
-def sum_of(a):
+def added_up(terms, add):
     total = (Fraction(0), Fraction(0))
-    for interval in intervals(a):
-        total = step(0, total, interval)
+    for term in terms:
+        total = add(0, total, term)
     return alone(total)
+
+
+def products(a, b, multiply):
+    return [multiply(2, first, second) for first, second in zip(intervals(a), intervals(b))]
+
+
+def sum_of(a):
+    return added_up(intervals(a), step)
 
 
 def sum_rounded_once(a):
     """What would be wrong to answer: the exact sum, rounded at the end alone."""
-    total = (Fraction(0), Fraction(0))
-    for interval in intervals(a):
-        total = result(0, total, interval)
-    return alone(total)
+    return added_up(intervals(a), result)
 
 
 def dot(a, b):
-    total = (Fraction(0), Fraction(0))
-    for first, second in zip(intervals(a), intervals(b)):
-        total = step(0, total, step(2, first, second))
-    return alone(total)
+    return added_up(products(a, b, step), step)
 
 
 def dot_of_exact_products(a, b):
     """What would be wrong to answer: the products taken exactly, the sums alone rounded."""
-    total = (Fraction(0), Fraction(0))
-    for first, second in zip(intervals(a), intervals(b)):
-        total = step(0, total, result(2, first, second))
-    return alone(total)
+    return added_up(products(a, b, result), step)
 
 
 def dot_of_exact_sums(a, b):
     """What would be wrong to answer: the products rounded, and then only the whole sum."""
-    total = (Fraction(0), Fraction(0))
-    for first, second in zip(intervals(a), intervals(b)):
-        total = result(0, total, step(2, first, second))
-    return alone(total)
+    return added_up(products(a, b, step), result)
+
+
+def check(a):
+    return [intervals(a).count(None)]
 
 
 def horner(c, x, multiply, add):

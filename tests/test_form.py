@@ -45,6 +45,7 @@ for n in (0, 1, 65537):
     ends = [0, 4607182418800017408] if n == 1 else []
     enclosing.ends.sum_of(n, ends)
     enclosing.ends.dot(n, ends, ends)
+    enclosing.ends.check(n, ends)
 for n in (0, 1, 1025):
     enclosing.ends.evaluate(n, [4607182418800017408] * (n + 1) if n < 2 else [], [0, 4607182418800017408])
 watching[0] = False
