@@ -3,7 +3,8 @@
 Every finite double is a whole number of units, a unit being the least denormal, 2^-1074. So an interval is
 reckoned with as a pair of whole numbers of units, its lower and its upper end; an empty one is None. An
 operation gives whole units outside of its exact ends, or at them, with no double in between: so the one
-rounding to doubles that follows still finds the very best ones.
+rounding to doubles that follows still finds the very best ones. Where operations follow one another, each goes
+on from the rounded ends of the one ahead of it.
 """
 
 REFUSED = -2
@@ -247,7 +248,7 @@ def evaluate(n, c, x):
     if n > MOST_POWER:
         return [REFUSED]
     variable = interval_at(x, 0)
-    # Of a coefficient alone no step looks at x, and yet nothing is the value of an empty one.
+    # With n of 0 no step looks at x, but where x is empty the value is too.
     if variable is None:
         return told_alone(None)
     value = point_at(c, n)
